@@ -3,8 +3,8 @@
 import unittest
 
 from helper import (
-    BORN, HIGHEST, JOIN_ALL, OPEN, SHUT, Refusing, age, all_that_is_kept, asked, go_by, join, last, members,
-    sets_gone_by, start, whose,
+    BORN, HIGHEST, JOIN_ALL, OPEN, SHUT, Refusing, age, answered_now, asked, go_by, join, last, members, sets_gone_by,
+    start, whose,
 )
 
 LOWEST_AGE = 3
@@ -125,9 +125,10 @@ class JoinAll(Refusing):
             self.assertEqual(last(BEGUN + [BORN, OPEN, go_by(years), JOIN_ALL]), told)
 
     def test_all_at_once_or_one_by_one(self):
-        ready = BEGUN + [BORN, go_by(2), BORN, BORN, go_by(3), BORN, go_by(2), OPEN, join(1)]
-        one_by_one = ready + [join(person) for person in range(4)]
-        self.assertEqual(all_that_is_kept(ready + [JOIN_ALL]), all_that_is_kept(one_by_one))
+        ready = BEGUN + [BORN, go_by(2), BORN, BORN, BORN, go_by(3), BORN, go_by(2), OPEN, join(1)]
+        one_by_one = ready + [join(person) for person in range(5)]
+        self.assertEqual(last(ready + [JOIN_ALL]), [2, 12])
+        self.assertEqual(answered_now(ready + [JOIN_ALL]), answered_now(one_by_one))
 
 
 if __name__ == "__main__":
